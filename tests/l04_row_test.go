@@ -64,23 +64,31 @@ func eachRowBehind(row []impl.Cell, more int, yield func([]impl.Cell)) {
 	}
 }
 
-// someRows are rows of all lengths, of pieces in no order.
-func someRows(count int, yield func([]impl.Cell, func(int) int)) {
-	seed := uint64(4)
-	next := func(below int) int {
+// numbersFrom gives numbers in no order, the same ones each time.
+func numbersFrom(seed uint64) func(below int) int {
+	return func(below int) int {
 		seed = seed*6364136223846793005 + 1442695040888963407
 		return int(seed>>33) % below
 	}
+}
+
+// mixedRow is that many cells, of pieces in no order.
+func mixedRow(cols int, next func(int) int) []impl.Cell {
 	pieces := rowPieces()
-	for range count {
-		cols := 1 + next(60)
-		var row []impl.Cell
-		for len(row) < cols {
-			if piece := pieces[next(len(pieces))]; len(row)+len(piece) <= cols {
-				row = append(row, piece...)
-			}
+	var row []impl.Cell
+	for len(row) < cols {
+		if piece := pieces[next(len(pieces))]; len(row)+len(piece) <= cols {
+			row = append(row, piece...)
 		}
-		yield(row, next)
+	}
+	return row
+}
+
+// someRows are rows of all lengths, of pieces in no order.
+func someRows(count int, yield func([]impl.Cell, func(int) int)) {
+	next := numbersFrom(4)
+	for range count {
+		yield(mixedRow(1+next(60), next), next)
 	}
 }
 
