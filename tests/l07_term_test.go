@@ -70,6 +70,19 @@ func doneOf(a impl.Action) bool {
 	return right && !slices.ContainsFunc(a.Text, func(r int64) bool { return !isRune(r) })
 }
 
+// endsFullOf tells by hand whether an action is one of those behind which Full is false, also where nothing else comes of it.
+func endsFullOf(a impl.Action) bool {
+	switch {
+	case a.Kind == 2:
+		return a.Rune > 7 && a.Rune < 14
+	case a.Kind == 3:
+		return strings.ContainsRune("DEM78c", rune(a.Rune))
+	case a.Kind == 4 && a.Mark == 0:
+		return strings.ContainsRune("ABCDGdHfJKLM@PXSTr", rune(a.Rune))
+	}
+	return false
+}
+
 // doOf is Do by hand.
 func doOf(t impl.Term, a impl.Action) impl.Term {
 	if !termOkOf(t) {
@@ -79,7 +92,7 @@ func doOf(t impl.Term, a impl.Action) impl.Term {
 	if !doneOf(a) {
 		return t
 	}
-	full := t.Full && (a.Kind == 5 || a.Kind == 4 && (a.Rune == 'm' || a.Rune == 'h' || a.Rune == 'l'))
+	full := t.Full && !endsFullOf(a)
 	switch {
 	case a.Kind == 1:
 		return letterDone(t, a.Rune)
@@ -737,11 +750,11 @@ func TestTheControls(t *testing.T) {
 		{4, 3, "ab\rc", "cb///", 0, 1, false},
 		{4, 3, "abcd\r", "abcd///", 0, 0, false},
 		{4, 3, "abcd\re", "ebcd///", 0, 1, false},
-		{4, 3, "abcd\ae", "abce///", 0, 3, true},
-		{4, 3, "abcd\x0ee", "abce///", 0, 3, true},
-		{4, 3, "abcd\a", "abcd///", 0, 3, false},
-		{4, 3, "abcd\x0e", "abcd///", 0, 3, false},
-		{4, 3, "abcd\x00\x7f", "abcd///", 0, 3, false},
+		{4, 3, "abcd\ae", "abcd/e//", 1, 1, false},
+		{4, 3, "abcd\x0ee", "abcd/e//", 1, 1, false},
+		{4, 3, "abcd\a", "abcd///", 0, 3, true},
+		{4, 3, "abcd\x0e", "abcd///", 0, 3, true},
+		{4, 3, "abcd\x00\x7f", "abcd///", 0, 3, true},
 		{4, 3, "ab\a\x0e\x00\x7fc", "abc///", 0, 3, false},
 	})
 }
@@ -778,8 +791,8 @@ func TestTheEscapes(t *testing.T) {
 		{4, 3, "abcd^7\r\n^8e", "abce///", 0, 3, true},
 		{4, 3, "abcd^8", "abcd///", 0, 0, false},
 		{4, 3, "abcd^c", "///", 0, 0, false},
-		{4, 3, "abcd^z", "abcd///", 0, 3, false},
-		{4, 3, "abcd^me", "abce///", 0, 3, true},
+		{4, 3, "abcd^z", "abcd///", 0, 3, true},
+		{4, 3, "abcd^me", "abcd/e//", 1, 1, false},
 	})
 }
 
@@ -1080,11 +1093,10 @@ func fullTerm() impl.Term {
 
 func TestWhatKeepsFull(t *testing.T) {
 	for r := int64(0); r <= 300; r++ {
-		list := r == 'm' || r == 'h' || r == 'l'
-		for a, keeps := range map[int]bool{0: false, 1: false, 2: list, 3: list, 4: list, 5: true} {
-			act := []impl.Action{controlled(r), escaped(r), listed(r, 0), listed(r, 63), listed(r, 63, 7, 25, 1049), {Kind: 5, Rune: r}}[a]
-			got := impl.Do(fullTerm(), act)
-			if got.Full != keeps {
+		known := map[int64]string{2: "\b\t\n\v\f\r", 3: "DEM78c", 4: "ABCDGdHfJKLM@PXSTr"}
+		for _, act := range []impl.Action{controlled(r), escaped(r), listed(r, 0), listed(r, 0, 9999, 9999), listed(r, 63), listed(r, 63, 7, 25, 1049), {Kind: 5, Rune: r}} {
+			keeps := act.Mark == 63 || !strings.ContainsRune(known[act.Kind], rune(r))
+			if got := impl.Do(fullTerm(), act); got.Full != keeps {
 				t.Errorf("%v: %s", act, tellTerm(got))
 			}
 			checkDo(t, fullTerm(), act)
@@ -1094,20 +1106,37 @@ func TestWhatKeepsFull(t *testing.T) {
 			t.Errorf("letter %d: %s", r, tellTerm(got))
 		}
 	}
+}
+
+// Behind what ends Full a letter comes into the last cell once more, behind what keeps it a line is fed first.
+func TestLettersBehindWhatKeepsFull(t *testing.T) {
+	for _, kept := range []string{
+		"[1m", "[m", "[?25l", "[?7l[?7h", "[?9h", "[?1049h[?1049l", "^]t\a", "^]t^\\", "\x7f", "\xcc\x81",
+		"[4h", "[4l", "[z", "[E", "[5n", "[?5A", "[?A", "[?2J", "[?K", "[?r", "[?1;2r", "[?m", "[?X",
+	} {
+		checkLooks(t, []look{{4, 3, "abcd" + kept, "abcd///", 0, 3, true}, {4, 3, "abcd" + kept + "e", "abcd/e//", 1, 1, false}})
+	}
+	for _, ended := range []string{"\t", "[C", "[9C", "[3J", "[3K", "[4;1r", "[2;2r", "[1;9r", "^7", "[4G", "[d"} {
+		checkLooks(t, []look{{4, 3, "abcd" + ended, "abcd///", 0, 3, false}, {4, 3, "abcd" + ended + "e", "abce///", 0, 3, true}})
+	}
 	checkLooks(t, []look{
-		{4, 3, "abcd[1me", "abcd/e//", 1, 1, false},
-		{4, 3, "abcd[?25le", "abcd/e//", 1, 1, false},
-		{4, 3, "abcd[?7l[?7he", "abcd/e//", 1, 1, false},
-		{4, 3, "abcd[4he", "abcd/e//", 1, 1, false},
-		{4, 3, "abcd^]t\ae", "abcd/e//", 1, 1, false},
-		{4, 3, "abcd[?1049h[?1049le", "abcd/e//", 1, 1, false},
-		{4, 3, "abcd[ze", "abce///", 0, 3, true},
-		{4, 3, "abcd[Ce", "abce///", 0, 3, true},
-		{4, 3, "abcd[3Je", "abce///", 0, 3, true},
-		{4, 3, "abcd[4;1re", "abce///", 0, 3, true},
 		{4, 3, "[2;3r[Habcd[Le", "abce///", 0, 3, true},
-		{4, 3, "abcd^7e", "abce///", 0, 3, true},
+		{4, 3, "[2;3r[Habcd[Me", "abce///", 0, 3, true},
 	})
+}
+
+// A right rune that is far above a known one is none of these, however its number is cut.
+func TestWhatIsFarAboveAKnownOneKeepsFull(t *testing.T) {
+	for _, above := range []int64{128, 256, 512, 1024, 1 << 16, 1 << 20} {
+		for _, low := range "\b\t\n\v\f\rDEM78cABGdHfJKLP@XSTr" {
+			r := int64(low) + above
+			for _, act := range []impl.Action{controlled(r), escaped(r), listed(r, 0, 2), listed(r, 63, 2)} {
+				if got := impl.Do(fullTerm(), act); !sameTerm(got, fullTerm()) {
+					t.Errorf("%v: %s", act, tellTerm(got))
+				}
+			}
+		}
+	}
 }
 
 // wrongActions are each wrong by one thing; else there would be something to do.
